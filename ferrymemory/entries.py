@@ -1,13 +1,15 @@
 """A memory and its entries."""
 
 from ferrymemory.refusals import NoEntry, NotTold, TooMuch
+from ferrymemory.units import units_of
 
 MOST_ENTRIES = 256
 MOST_PIECES_HELD = 16384
 
 
-def texts_of(rows):
-    return [None if row is None else row.text for row in rows]
+def key_of(rows):
+    """What is the same just of the same rows, told or not told alike. A row has one text, so the texts tell it."""
+    return tuple([None if row is None else tuple(row.text) for row in rows])
 
 
 def piece_count(rows):
@@ -21,6 +23,8 @@ class Entry:
         self.number = number
         self.rows = rows
         self.stamp = stamp
+        # The segment's and the target's, kept as every best and every has goes through them.
+        self.units = [units_of(rows[0].pieces), units_of(rows[1].pieces)]
 
     def told_row(self, which):
         row = self.rows[which]
@@ -34,34 +38,49 @@ class Memory:
 
     def __init__(self):
         self.entries = {}
+        # The number of each entry by its rows, so that a merge does not hold all entries against all.
+        self.numbers = {}
         self.next_number = 0
 
     def pieces_held(self):
         return sum([piece_count(entry.rows) for entry in self.entries.values()])
 
-    def same_entry(self, rows):
-        """The entry that has the same four rows, or None. A row has one text, so the texts tell it."""
-        texts = texts_of(rows)
-        for entry in self.entries.values():
-            if texts_of(entry.rows) == texts:
-                return entry
-        return None
+    def has_same(self, rows):
+        return key_of(rows) in self.numbers
+
+    def check_room(self, new):
+        """Refuses where new entries, told by their rows, would be beyond the bounds."""
+        pieces = self.pieces_held() + sum([piece_count(rows) for rows in new])
+        if len(self.entries) + len(new) > MOST_ENTRIES or pieces > MOST_PIECES_HELD:
+            raise TooMuch()
 
     def put(self, rows, stamp):
         """Puts an entry in and answers its number."""
-        entry = self.same_entry(rows)
-        if entry is None:
-            return self.put_new(rows, stamp)
-        entry.stamp = max(entry.stamp, stamp)
-        return entry.number
+        if not self.has_same(rows):
+            self.check_room([rows])
+        return self.put_where_room(rows, stamp)
 
-    def put_new(self, rows, stamp):
-        if len(self.entries) == MOST_ENTRIES or self.pieces_held() + piece_count(rows) > MOST_PIECES_HELD:
-            raise TooMuch()
+    def put_where_room(self, rows, stamp):
+        key = key_of(rows)
+        if key in self.numbers:
+            entry = self.entries[self.numbers[key]]
+            entry.stamp = max(entry.stamp, stamp)
+            return entry.number
         number = self.next_number
         self.entries[number] = Entry(number, rows, stamp)
+        self.numbers[key] = number
         self.next_number = number + 1
         return number
+
+    def merge(self, other):
+        """Puts all entries of another memory in and answers how many are new."""
+        entries = [other.entries[number] for number in other.numbers_from(0)]
+        # No two entries of the other have the same rows, so those that are not here yet are all new.
+        new = [entry.rows for entry in entries if not self.has_same(entry.rows)]
+        self.check_room(new)
+        for entry in entries:
+            self.put_where_room(entry.rows, entry.stamp)
+        return len(new)
 
     def entry_at(self, number):
         if number not in self.entries:
@@ -70,11 +89,15 @@ class Memory:
 
     def drop(self, number):
         entry = self.entry_at(number)
-        self.entries.pop(entry.number)
+        self.entries.pop(number)
+        self.numbers.pop(key_of(entry.rows))
+
+    def numbers_from(self, start):
+        """The numbers of the entries, from start on, the least first."""
+        return sorted([number for number in self.entries if number >= start])
 
     def first_from(self, start):
-        """The least number, from start on, that is an entry's."""
-        numbers = [number for number in self.entries if number >= start]
+        numbers = self.numbers_from(start)
         if not numbers:
             raise NoEntry()
-        return min(numbers)
+        return numbers[0]

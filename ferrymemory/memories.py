@@ -1,15 +1,20 @@
 """The calls on two memories, and their answers."""
 
-from ferrymemory.costs import cost_of, nearness
+from ferrymemory.costs import Savings, cost_of, nearness
 from ferrymemory.entries import Memory
+from ferrymemory.matches import matches_of
+from ferrymemory.phrases import first_with
 from ferrymemory.reader import Reader
 from ferrymemory.refusals import NoEntry, NoText, NotStraight, NotTold, OutOfRange, TooMuch, UnknownCall, WrongRow
-from ferrymemory.rows import MOST_BYTES, MOST_PIECES, read_row
+from ferrymemory.rows import MOST_BYTES, MOST_PIECES, read_row, text_of
 from ferrymemory.tags import fits, tags_of
+from ferrymemory.targets import target_for
 from ferrymemory.units import units_of, weight_of
 
 TICK_END = 1099511627776
 MOST_PERSON = 255
+MOST_NEAR = 1000
+MOST_MATCHES = 256
 
 
 def check_lengths(texts):
@@ -39,7 +44,7 @@ def straight_row(text, added):
 
 
 def straight_rows(texts):
-    """The rows of a call's texts in their order; None stays where a row isn't told."""
+    """The rows of a call's texts in their order; None stays where a row isn't told, or the call has none there."""
     rows = []
     for place, text in enumerate(texts):
         rows.append(None if text is None else straight_row(text, 10 * place + 10))
@@ -50,13 +55,17 @@ def if_told(text, around, bit):
     return text if around & bit else None
 
 
+def counted(text):
+    return [len(text)] + text
+
+
 def answer_cost(reader):
     texts = [reader.take_text(), reader.take_text()]
     check_lengths(texts)
     rows = straight_rows(texts)
     units = units_of(rows[0].pieces)
     others = units_of(rows[1].pieces)
-    cost = cost_of(units, others)
+    cost = cost_of(units, Savings(others))
     weight = weight_of(units)
     other_weight = weight_of(others)
     return [cost, nearness(cost, weight + other_weight), weight, other_weight]
@@ -109,8 +118,68 @@ def answer_row(reader, memories):
     which = reader.take_number()
     check_choice(which_memory, 1)
     check_choice(which, 3)
-    text = memories[which_memory].entry_at(number).told_row(which).text
-    return [0, len(text)] + text
+    return [0] + counted(memories[which_memory].entry_at(number).told_row(which).text)
+
+
+def answer_stamp(reader, memories):
+    which_memory = reader.take_number()
+    number = reader.take_number()
+    check_choice(which_memory, 1)
+    return [0] + list(memories[which_memory].entry_at(number).stamp)
+
+
+def answer_best(reader, memories):
+    which_memory = reader.take_number()
+    around = reader.take_number()
+    least = reader.take_number()
+    most = reader.take_number()
+    # In the order of an entry's rows, so that they are held against those; there is no target among them.
+    texts = [reader.take_text(), None]
+    texts.append(if_told(reader.take_text(), around, 1))
+    texts.append(if_told(reader.take_text(), around, 2))
+    check_lengths(texts)
+    if least > MOST_NEAR or most == 0 or most > MOST_MATCHES:
+        raise TooMuch()
+    check_choice(which_memory, 1)
+    check_choice(around, 3)
+    matches = matches_of(memories[which_memory], straight_rows(texts), least)[:most]
+    told = [len(matches)]
+    for found in matches:
+        told.extend([found.entry.number, found.kind, found.near, found.cost])
+    return told
+
+
+def answer_target(reader, memories):
+    which_memory = reader.take_number()
+    number = reader.take_number()
+    text = reader.take_text()
+    check_lengths([text])
+    check_choice(which_memory, 1)
+    asked = straight_row(text, 10)
+    entry = memories[which_memory].entry_at(number)
+    pieces = target_for(asked, entry.rows[0], entry.rows[1])
+    # So many pieces never have more than 65536 bytes, as none has more than 6.
+    if len(pieces) > MOST_PIECES:
+        raise TooMuch()
+    return [0] + counted(text_of(pieces))
+
+
+def answer_has(reader, memories):
+    which_memory = reader.take_number()
+    side = reader.take_number()
+    start = reader.take_number()
+    text = reader.take_text()
+    check_lengths([text])
+    check_choice(which_memory, 1)
+    check_choice(side, 1)
+    units = units_of(straight_row(text, 10).pieces)
+    return [first_with(memories[which_memory], side, start, units)]
+
+
+def answer_merge(reader, memories):
+    which_memory = reader.take_number()
+    check_choice(which_memory, 1)
+    return [memories[which_memory].merge(memories[1 - which_memory])]
 
 
 def answer_call(reader, memories):
@@ -128,6 +197,16 @@ def answer_call(reader, memories):
         return answer_next(reader, memories)
     if call == 6:
         return answer_row(reader, memories)
+    if call == 7:
+        return answer_stamp(reader, memories)
+    if call == 8:
+        return answer_best(reader, memories)
+    if call == 9:
+        return answer_target(reader, memories)
+    if call == 10:
+        return answer_has(reader, memories)
+    if call == 11:
+        return answer_merge(reader, memories)
     raise UnknownCall()
 
 

@@ -1,7 +1,7 @@
-"""Rows: the pieces that a text stands for."""
+"""Rows: the pieces that a text stands for, and the text that stands for pieces."""
 
 from ferrymemory.refusals import NoText
-from ferrymemory.scanner import Scanner, take_character
+from ferrymemory.scanner import Scanner, character_bytes, take_character
 
 # A piece is a tuple of its kind and its number: a character's code, or a tag's n.
 # A tag's kind is the byte that tells it in the text.
@@ -59,3 +59,20 @@ def read_row(text):
         row.places.append(scanner.place)
         row.pieces.append(take_piece(scanner))
     return row
+
+
+def piece_text(piece):
+    kind = piece[0]
+    number = piece[1]
+    if kind != CHARACTER:
+        return [BRACE, kind] + [ord(digit) for digit in str(number)] + [END_BRACE]
+    if number == BRACE:
+        return [BRACE, BRACE]
+    return character_bytes(number)
+
+
+def text_of(pieces):
+    text = []
+    for piece in pieces:
+        text.extend(piece_text(piece))
+    return text

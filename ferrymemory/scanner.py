@@ -1,4 +1,4 @@
-"""Taking bytes one by one, and the characters that they stand for in UTF-8."""
+"""Taking bytes one by one, the characters that they stand for in UTF-8, and a character's bytes."""
 
 from ferrymemory.refusals import NoText
 
@@ -53,3 +53,13 @@ def take_character(scanner):
     for turn in range(tails - 1):
         code = code * 64 + scanner.take(0x80, highest_tail(code)) % 64
     return code
+
+
+def character_bytes(code):
+    if code < 0x80:
+        return [code]
+    if code < 0x800:
+        return [0xC0 + code // 0x40, 0x80 + code % 0x40]
+    if code < 0x10000:
+        return [0xE0 + code // 0x1000, 0x80 + code // 0x40 % 0x40, 0x80 + code % 0x40]
+    return [0xF0 + code // 0x40000, 0x80 + code // 0x1000 % 0x40, 0x80 + code // 0x40 % 0x40, 0x80 + code % 0x40]

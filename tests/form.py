@@ -81,7 +81,7 @@ class Checker:
 
     def check(self):
         for part in (self.lines, self.top, self.defs, self.class_forms, self.nodes, self.names, self.walks, self.calls,
-                     self.errors, self.kept_values):
+                     self.errors, self.kept_values, self.class_uses):
             part()
         return sorted(set(self.found))
 
@@ -158,6 +158,16 @@ class Checker:
                 self.say("L18", node)
             for method in methods:
                 self.method_form(method)
+
+    def class_uses(self):
+        names = [node.name for node in self.classes] + [name for name in self.imports if re.search("[a-z]", name[1:])
+                                                         and name[0].isupper()]
+        for node in ast.walk(self.tree):
+            if isinstance(node, ast.Name) and node.id in names:
+                parent = self.parents[node]
+                called = isinstance(parent, ast.Call) and parent.func is node
+                if not called and not isinstance(parent, (ast.ExceptHandler, ast.ClassDef)):
+                    self.say("L18", node)
 
     def method_form(self, method):
         if method.name == "__init__":

@@ -63,26 +63,6 @@ class PutTest(unittest.TestCase):
                 self.assertEqual(ask(call, counts(0), counts(1)), [list(refusal), [0, 0, 0, 0], [0, 0, 0, 0]])
 
 
-class StampTest(unittest.TestCase):
-    """No call of these tells a stamp, so it is asked of the memory itself."""
-
-    def stamp_after(self, *stamps):
-        memory = Memory()
-        for stamp in stamps:
-            number = memory.put([read_row([97]), read_row([98]), None, None], stamp)
-        self.assertEqual((number, len(memory.entries)), (0, 1))
-        return memory.entry_at(0).stamp
-
-    def test_the_later_of_the_two_stamps(self):
-        self.assertEqual(self.stamp_after((5, 5)), (5, 5))
-        self.assertEqual(self.stamp_after((5, 5), (5, 5)), (5, 5))
-        self.assertEqual(self.stamp_after((5, 5), (4, 255)), (5, 5))
-        self.assertEqual(self.stamp_after((5, 5), (5, 4)), (5, 5))
-        self.assertEqual(self.stamp_after((5, 5), (5, 6)), (5, 6))
-        self.assertEqual(self.stamp_after((5, 5), (6, 0)), (6, 0))
-        self.assertEqual(self.stamp_after((5, 5), (6, 0), (5, 255)), (6, 0))
-
-
 class BoundTest(unittest.TestCase):
     def test_256_entries(self):
         calls = [put(str(number), "") for number in range(256)]
@@ -175,18 +155,6 @@ class RowTest(unittest.TestCase):
         told = ask(put("a", "b"), row(0, 4), row(0, 4294967295), row(0, 0, m=2), row(1, 0), row(1, 2), row(0, 0, m=1),
                    row(4294967295, 0))
         self.assertEqual(told, [[0], [-1], [-1], [-1], [-2], [-2], [-2], [-2]])
-
-
-class WhatIsToldTest(unittest.TestCase):
-    def test_it_hangs_on_the_entries_alone(self):
-        """Two ways to the same entries under the same numbers tell the same, but for counts' next number."""
-        questions = [counts(), next_from(0), next_from(1), row(0, 0), row(0, 1), row(0, 2), row(1, 3), row(2, 0)]
-        short = ask(put("a", "b", "p"), put("c", "d", None, "q"), *questions)[2:]
-        long = ask(put("a", "b", "p", tick=7), put("c", "d", None, "q"), put("a", "b", "p", tick=3), put("{", ""),
-                   put("x", "y"), drop(2), put("c", "d", None, "q"), put("other", "", m=1), *questions)[8:]
-        self.assertEqual(short[0], [0, 2, 6, 2])
-        self.assertEqual(long[0], [0, 2, 6, 3])
-        self.assertEqual(short[1:], long[1:])
 
 
 if __name__ == "__main__":

@@ -32,6 +32,9 @@ OUTSIDE = [
     ("L17", "def f(x):\n    return x.elements\n"), ("L17", "def f(x):\n    return getattr(x, 'y')\n"),
     ("L18", "class A(StopIteration):\n    pass\n"), ("L18", "class A:\n    def f(self):\n        pass\n\n"
                                                     "    def f(self):\n        pass\n"),
+    ("L18", "class A:\n    pass\n\n\ndef f():\n    return A\n"),
+    ("L18", "from ferrymemory.rows import Row\n\n\ndef f():\n    return [Row]\n"),
+    ("L18", "class A:\n    pass\n\n\ndef f():\n    A.x = 1\n"),
     ("L19", "def f():\n    try:\n        g()\n    except Exception:\n        pass\n"),
     ("L19", "def f():\n    try:\n        g()\n    except:\n        pass\n"), ("L19", "def f(e):\n    raise e\n"),
     ("L20", "def f(x, y):\n    return x is y\n"), ("L21", "def f(x: int):\n    return x\n"),

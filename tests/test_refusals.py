@@ -3,7 +3,8 @@
 import itertools
 import unittest
 
-from tests.writing import ask, cost, counts, drop, next_from, put, row, told_text
+from tests.writing import (ask, best, cost, counts, drop, has, merge, next_from, put, row, stamp, target, told_matches,
+                           told_text)
 
 MANY = 4097
 NO_TEXT = "a{"
@@ -13,17 +14,20 @@ TOO_MANY = "a" * MANY
 TOO_LONG = "\u20ac" * 21845 + "ab"
 
 
-class OrderTest(unittest.TestCase):
+class RefusalCase(unittest.TestCase):
     def refused(self, call, refusal):
         """The call is refused so, and what stands there stands as before."""
         before = [put("s", "t", "p"), put("u", "v", None, "w", m=1), put("x", "", m=1), drop(0, m=1)]
         questions = [counts(0), counts(1), next_from(0), next_from(0, m=1), next_from(1)]
         questions += [row(entry, which, m) for entry, m in ((0, 0), (1, 1)) for which in range(4)]
+        questions += [stamp(0), stamp(1, m=1), best("s", "p"), best("x", m=1), target(0, "{.1}"), has("t", side=1)]
         unasked = ask(*before, *questions)[len(before):]
         told = ask(*before, call, *questions)[len(before):]
         self.assertEqual(told[0], refusal)
         self.assertEqual(told[1:], unasked)
 
+
+class OrderTest(RefusalCase):
     def test_bounds_of_numbers_before_choices_before_rows(self):
         self.refused(put(NO_TEXT, "", m=2, around=4, tick=2 ** 40), [-6])
         self.refused(put(NO_TEXT, "", m=2, around=4, person=256), [-6])
@@ -116,10 +120,116 @@ class OrderTest(unittest.TestCase):
         self.refused(next_from(9, m=2), [-1])
         self.refused(next_from(9), [-2])
         self.refused(counts(2), [-1])
+        self.refused(stamp(9, m=2), [-1])
+        self.refused(stamp(9), [-2])
+        self.refused(merge(2), [-1])
 
     def test_an_entry_is_still_told_after_refusals(self):
         told = ask(put("s", "t", "p"), put("s", "t{", "p"), put("s", "t", "p", tick=2 ** 40), row(0, 2))
         self.assertEqual(told, [[0], [-5, 21, 2], [-6], told_text("p")])
+
+
+class BestTest(RefusalCase):
+    def test_bounds_of_least_and_most(self):
+        for least, most, fine in ((0, 1, True), (1000, 256, True), (1001, 256, False), (4294967295, 1, False),
+                                  (0, 0, False), (0, 257, False), (1000, 4294967295, False)):
+            if fine:
+                self.assertEqual(told_matches(ask(put("s", ""), best("s", least=least, most=most))[1]),
+                                 [(0, 3, 1000, 0)])
+            else:
+                self.refused(best("s", least=least, most=most), [-6])
+
+    def test_bounds_before_choices_before_rows(self):
+        self.refused(best(NO_TEXT, m=2, around=4, least=1001), [-6])
+        self.refused(best(NO_TEXT, m=2, around=4, most=0), [-6])
+        self.refused(best(NO_TEXT, m=2, around=4, most=257), [-6])
+        self.refused(best(TOO_LONG, m=2), [-6])
+        self.refused(best(TOO_LONG, around=4), [-6])
+        self.refused(best(NO_TEXT, TOO_LONG), [-6])
+        self.refused(best(NO_TEXT, None, TOO_LONG), [-6])
+        self.refused(best(NO_TEXT, m=2), [-1])
+        self.refused(best(NO_TEXT, around=4), [-1])
+        self.refused(best(TOO_MANY, m=4294967295), [-1])
+        self.refused(best("s", around=4294967295), [-1])
+
+    def test_of_around_above_3_the_two_lowest_bits_count_for_the_length(self):
+        self.refused(best("", TOO_LONG, "", around=4 + 1), [-6])
+        self.refused(best("", "", TOO_LONG, around=4 + 2), [-6])
+        self.refused(best("", TOO_LONG, "", around=4 + 3), [-6])
+        self.refused(best("", TOO_LONG, TOO_LONG, around=4), [-1])
+        self.refused(best("", TOO_LONG, "", around=8 + 2), [-1])
+        self.refused(best("", "", TOO_LONG, around=8 + 1), [-1])
+
+    def test_what_is_not_told_is_not_looked_at(self):
+        for text in (TOO_LONG, TOO_MANY, NO_TEXT, NOT_STRAIGHT):
+            self.assertEqual(ask(put("s", ""), best("s", text, text, around=0), best("s", "", text, around=1),
+                                 best("s", text, "", around=2))[1:], [[1, 0, 3, 1000, 0]] * 3)
+
+    def test_kinds_and_places_in_the_order_of_the_rows(self):
+        faults = {NO_TEXT: [-5, 1, 2], TOO_MANY: [-6], NOT_STRAIGHT: [-5, 2, 6]}
+        kinds = (10, 30, 40)
+        for texts in itertools.product(["", *faults], repeat=3):
+            wrong = [(kind, faults[text]) for kind, text in zip(kinds, texts) if text]
+            if wrong:
+                kind, refusal = wrong[0]
+                self.refused(best(*texts), refusal[:1] + [kind + number for number in refusal[1:2]] + refusal[2:])
+
+    def test_the_faults_of_one_row(self):
+        self.refused(best(NOT_STRAIGHT + TOO_MANY + "\x7f"), [-5, 11, 10 + MANY])
+        self.refused(best(NOT_STRAIGHT + TOO_MANY), [-6])
+        self.refused(best("", NOT_STRAIGHT + TOO_MANY + "{"), [-5, 31, 11 + MANY])
+        self.refused(best("", "", NOT_STRAIGHT + TOO_MANY), [-6])
+
+    def test_4096_pieces_and_65536_bytes(self):
+        self.assertEqual(ask(best("a" * 4096, "b" * 4096, "c" * 4096)), [[0]])
+        text = "\u20ac" * 21845 + "{"
+        self.refused(best(text), [-5, 11, 65536])
+        self.refused(best("", text), [-5, 31, 65536])
+        self.refused(best("", None, text), [-5, 41, 65536])
+
+
+class TargetTest(RefusalCase):
+    def test_the_order(self):
+        self.refused(target(9, TOO_LONG, m=2), [-6])
+        self.refused(target(0, TOO_LONG), [-6])
+        self.refused(target(9, NO_TEXT, m=2), [-1])
+        self.refused(target(0, TOO_MANY, m=2), [-1])
+        self.refused(target(0, "", m=4294967295), [-1])
+        self.refused(target(9, NO_TEXT), [-5, 11, 2])
+        self.refused(target(0, NO_TEXT), [-5, 11, 2])
+        self.refused(target(9, TOO_MANY), [-6])
+        self.refused(target(0, TOO_MANY), [-6])
+        self.refused(target(9, NOT_STRAIGHT), [-5, 12, 6])
+        self.refused(target(0, NOT_STRAIGHT), [-5, 12, 6])
+        self.refused(target(0, NOT_STRAIGHT + TOO_MANY), [-6])
+        self.refused(target(0, NOT_STRAIGHT + TOO_MANY + "{"), [-5, 11, 11 + MANY])
+        self.refused(target(9, "{.1}"), [-2])
+        self.refused(target(0, "", m=1), [-2])
+
+    def test_a_target_of_too_many_pieces_behind_all_others(self):
+        told = ask(put("", "x" * 4096), target(1, "{.1}"), target(0, "{.1}{"), target(0, "{.1}{.1}"),
+                   target(0, "{.1}", m=2), target(0, "{.1}"), counts(), row(0, 1))
+        self.assertEqual(told, [[0], [-2], [-5, 11, 5], [-5, 12, 4], [-1], [-6], [0, 1, 4096, 1],
+                                told_text("x" * 4096)])
+
+
+class HasTest(RefusalCase):
+    def test_the_order(self):
+        self.refused(has(TOO_LONG, m=2), [-6])
+        self.refused(has(TOO_LONG, side=2), [-6])
+        self.refused(has(TOO_LONG, 9), [-6])
+        self.refused(has(NO_TEXT, m=2), [-1])
+        self.refused(has(NO_TEXT, side=2), [-1])
+        self.refused(has(TOO_MANY, side=4294967295), [-1])
+        self.refused(has("t", m=4294967295), [-1])
+        self.refused(has(NO_TEXT, 9), [-5, 11, 2])
+        self.refused(has(NO_TEXT, side=1), [-5, 11, 2])
+        self.refused(has(TOO_MANY, 9), [-6])
+        self.refused(has(NOT_STRAIGHT, 9, side=1), [-5, 12, 6])
+        self.refused(has(NOT_STRAIGHT + TOO_MANY), [-6])
+        self.refused(has(NOT_STRAIGHT + TOO_MANY + "{"), [-5, 11, 11 + MANY])
+        self.refused(has("t", 9), [-2])
+        self.refused(has("t"), [-2])
 
 
 if __name__ == "__main__":

@@ -16,12 +16,14 @@ def cost(a, b):
     return [1] + written_row(a) + written_row(b)
 
 
-def put(s, t, p=None, q=None, m=0, around=None, tick=0, person=0):
+def around_of(p, q, around):
     """around follows from which of p and q are given, if it isn't given itself."""
-    if around is None:
-        around = (p is not None) + 2 * (q is not None)
+    return (p is not None) + 2 * (q is not None) if around is None else around
+
+
+def put(s, t, p=None, q=None, m=0, around=None, tick=0, person=0):
     rows = [s, t, p or "", q or ""]
-    return [2, m, around, tick, person] + [n for row in rows for n in written_row(row)]
+    return [2, m, around_of(p, q, around), tick, person] + [n for row in rows for n in written_row(row)]
 
 
 def drop(entry, m=0):
@@ -38,6 +40,27 @@ def next_from(start, m=0):
 
 def row(entry, which, m=0):
     return [6, m, entry, which]
+
+
+def stamp(entry, m=0):
+    return [7, m, entry]
+
+
+def best(s, p=None, q=None, m=0, around=None, least=0, most=256):
+    rows = [s, p or "", q or ""]
+    return [8, m, around_of(p, q, around), least, most] + [n for row in rows for n in written_row(row)]
+
+
+def target(entry, s, m=0):
+    return [9, m, entry] + written_row(s)
+
+
+def has(t, start=0, side=0, m=0):
+    return [10, m, side, start] + written_row(t)
+
+
+def merge(m):
+    return [11, m]
 
 
 def taken_apart(told):
@@ -66,6 +89,13 @@ def ask_many(calls):
 
 
 def told_text(text):
-    """What row answers for a text."""
+    """What row and target answer for a text."""
     numbers = as_bytes(text)
     return [0, len(numbers)] + numbers
+
+
+def told_matches(answer):
+    """What best answers, a tuple for each match: number, kind, how near, cost."""
+    if len(answer) != 1 + 4 * answer[0]:
+        raise AssertionError("there are not as many matches as are told")
+    return [tuple(answer[place:place + 4]) for place in range(1, len(answer), 4)]
